@@ -1,0 +1,1 @@
+"""Bridgecrews: bridges dealt out to crews."""
