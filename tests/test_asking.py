@@ -1,9 +1,12 @@
-"""What bridgecrews.asking asks of quarters, of the ends of a bridge and of a town's parts."""
+"""What bridgecrews.asking asks of quarters, of the ends of a bridge, of a town's parts and of lists of numbers."""
 
 import unittest
 
-from bridgecrews.asking import check_town, is_quarter, joins_two
-from bridgecrews.errors import BadTown
+from bridgecrews.asking import (
+    are_groups, check_crews, check_quarter, check_some, check_some_quarters, check_town, each_once, is_quarter,
+    joins_two, rises, rises_below,
+)
+from bridgecrews.errors import BadCount, BadQuarters, BadSome, BadTown
 
 
 class IsQuarter(unittest.TestCase):
@@ -33,6 +36,57 @@ class CheckTown(unittest.TestCase):
             with self.subTest(quarters=quarters, bridges=bridges):
                 with self.assertRaises(BadTown):
                     check_town(quarters, bridges)
+
+
+class Lists(unittest.TestCase):
+    def test_a_list_rises_where_each_number_is_greater_than_the_one_before(self):
+        for numbers in ([], [5], [-2, 0, 7], [0, 1, 10 ** 60]):
+            self.assertIs(rises(numbers), True)
+        for numbers in ([0, 0], [1, 0], [0, 1, 1], [0, 2, 1, 3], [10 ** 60, 1]):
+            self.assertIs(rises(numbers), False)
+
+    def test_numbers_below_a_count(self):
+        for numbers in ([], [0], [2], [0, 1, 2]):
+            self.assertIs(rises_below(numbers, 3), True)
+        for numbers in ([-1], [3], [0, 3], [-1, 0], [1, 0], [1, 1], [0, 10 ** 60], [-10 ** 60, 0]):
+            self.assertIs(rises_below(numbers, 3), False)
+
+    def test_a_number_stands_once_in_all_lists_together(self):
+        for lists in ([], [[]], [[], []], [[1], [0, 2]]):
+            self.assertIs(each_once(lists), True)
+        for lists in ([[1, 1]], [[1], [1]], [[0, 1], [2], [3, 0]]):
+            self.assertIs(each_once(lists), False)
+
+    def test_groups(self):
+        for groups, fewest in (([], 1), ([[0]], 1), ([[0, 3], [1], [2]], 1), ([], 2), ([[0, 3], [1, 2]], 2)):
+            self.assertIs(are_groups(groups, 4, fewest), True)
+        for groups in ([[]], [[0], [3, 2]], [[0, 4]], [[-1, 0]], [[0], [0]], [[2], [0]], [[0, 1], [1, 2]]):
+            self.assertIs(are_groups(groups, 4, 1), False)
+        self.assertIs(are_groups([[0, 1], [2]], 4, 2), False)
+
+
+class Checks(unittest.TestCase):
+    def test_what_is_right_passes_and_nothing_is_told(self):
+        for some in ([], [0], [0, 2]):
+            self.assertIsNone(check_some(some, [(0, 1), (1, 2), (0, 2)]))
+        for some in ([0], [3], [0, 1, 2, 3]):
+            self.assertIsNone(check_some_quarters(some, 4))
+        for number in (0, 3):
+            self.assertIsNone(check_quarter(number, 4))
+        for crews in (1, 60):
+            self.assertIsNone(check_crews(crews))
+
+    def test_what_is_wrong_is_refused(self):
+        for refusal, check, handed in (
+            (BadSome, check_some, ([2], [(0, 1), (1, 0)])), (BadSome, check_some, ([1, 0], [(0, 1), (1, 0)])),
+            (BadSome, check_some, ([0], [])), (BadQuarters, check_some_quarters, ([], 4)),
+            (BadQuarters, check_some_quarters, ([4], 4)), (BadQuarters, check_some_quarters, ([1, 0], 4)),
+            (BadQuarters, check_quarter, (4, 4)), (BadQuarters, check_quarter, (-1, 4)),
+            (BadCount, check_crews, (0,)), (BadCount, check_crews, (61,)),
+        ):
+            with self.subTest(check=check.__name__, handed=handed):
+                with self.assertRaises(refusal):
+                    check(*handed)
 
 
 if __name__ == "__main__":
