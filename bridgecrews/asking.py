@@ -1,6 +1,6 @@
 """What the program asks of the things that are handed in."""
 
-from bridgecrews.errors import BadCount, BadQuarters, BadSome, BadTown
+from bridgecrews.errors import BadCount, BadQuarters, BadSome, BadTown, TooLarge, TooSmall
 
 MOST_QUARTERS = 24
 MOST_BRIDGES = 60
@@ -69,3 +69,14 @@ def check_quarter(number, quarters):
 def check_crews(crews):
     if not 1 <= crews <= MOST_CREWS:
         raise BadCount(f"there are 1 to {MOST_CREWS} crews")
+
+
+def check_not_alone(quarters):
+    if quarters < 2:
+        raise TooSmall("this is told for two quarters or more")
+
+
+# How large a town may be differs with what is asked of it, so both bounds are handed in.
+def check_not_above(quarters, bridges, most_quarters, most_bridges):
+    if quarters > most_quarters or len(bridges) > most_bridges:
+        raise TooLarge(f"this is told for at most {most_quarters} quarters and {most_bridges} bridges")

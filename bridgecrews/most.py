@@ -72,8 +72,8 @@ def with_huddle(huddles, quarters):
 
 # Where a bridge finds no room, each crew joins all quarters at the bridges that were come to by these bridges alone:
 # they are a huddle. No later move comes out of them, so it stays one, and no other bridge within it needs a search.
-def most_dealt(town, crews):
-    check_crews(crews)
+# The number of crews was asked already, or is the program's own: no crews, too, and one more than can be asked for.
+def deal_most(town, crews):
     crew_of = {}
     huddles = []
     for bridge, ends in enumerate(town.bridges):
@@ -84,3 +84,8 @@ def most_dealt(town, crews):
             else:
                 make_room(crew_of, found[0], found[1])
     return (dealing_of(crew_of, crews), huddles)
+
+
+def most_dealt(town, crews):
+    check_crews(crews)
+    return deal_most(town, crews)

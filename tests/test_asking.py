@@ -3,10 +3,10 @@
 import unittest
 
 from bridgecrews.asking import (
-    are_groups, check_crews, check_quarter, check_some, check_some_quarters, check_town, each_once, is_quarter,
-    joins_two, rises, rises_below,
+    are_groups, check_crews, check_not_above, check_not_alone, check_quarter, check_some, check_some_quarters,
+    check_town, each_once, is_quarter, joins_two, rises, rises_below,
 )
-from bridgecrews.errors import BadCount, BadQuarters, BadSome, BadTown
+from bridgecrews.errors import BadCount, BadQuarters, BadSome, BadTown, TooLarge, TooSmall
 
 
 class IsQuarter(unittest.TestCase):
@@ -75,6 +75,10 @@ class Checks(unittest.TestCase):
             self.assertIsNone(check_quarter(number, 4))
         for crews in (1, 60):
             self.assertIsNone(check_crews(crews))
+        for quarters in (2, 24):
+            self.assertIsNone(check_not_alone(quarters))
+        for quarters, bridges in ((1, []), (3, [(0, 1), (1, 2)]), (2, [(0, 1)])):
+            self.assertIsNone(check_not_above(quarters, bridges, 3, 2))
 
     def test_what_is_wrong_is_refused(self):
         for refusal, check, handed in (
@@ -82,7 +86,8 @@ class Checks(unittest.TestCase):
             (BadSome, check_some, ([0], [])), (BadQuarters, check_some_quarters, ([], 4)),
             (BadQuarters, check_some_quarters, ([4], 4)), (BadQuarters, check_some_quarters, ([1, 0], 4)),
             (BadQuarters, check_quarter, (4, 4)), (BadQuarters, check_quarter, (-1, 4)),
-            (BadCount, check_crews, (0,)), (BadCount, check_crews, (61,)),
+            (BadCount, check_crews, (0,)), (BadCount, check_crews, (61,)), (TooSmall, check_not_alone, (1,)),
+            (TooLarge, check_not_above, (4, [], 3, 2)), (TooLarge, check_not_above, (2, [(0, 1)] * 3, 3, 2)),
         ):
             with self.subTest(check=check.__name__, handed=handed):
                 with self.assertRaises(refusal):

@@ -12,6 +12,10 @@ FUNCTIONS = {
     "partings": {"bridges_between": ["town", "parting"], "bridges_within": ["town", "quarters"]},
     "dealings": {"is_dealing": ["town", "dealing"], "shows_most": ["town", "dealing", "huddles"]},
     "most": {"most_dealt": ["town", "crews"]},
+    "joining": {"joining_crews": ["town", "crews"], "most_joining": ["town"]},
+    "covering": {"fewest_crews": ["town"], "all_by": ["town", "crews"]},
+    "strength": {"strength_of": ["town"]},
+    "crowding": {"crowding_of": ["town"]},
 }
 
 

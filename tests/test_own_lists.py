@@ -2,17 +2,28 @@
 
 import copy
 
+from bridgecrews.covering import all_by, fewest_crews
+from bridgecrews.crowding import crowding_of
 from bridgecrews.dealings import is_dealing, shows_most
 from bridgecrews.errors import CrewError
+from bridgecrews.joining import joining_crews, most_joining
 from bridgecrews.most import most_dealt
 from bridgecrews.partings import bridges_between, bridges_within
 from bridgecrews.pieces import joins_all, pieces_of, ring_over, way_over
+from bridgecrews.strength import strength_of
 from bridgecrews.towns import Town
-from town_help import TownCase, full_town
+from town_help import TownCase, full_pairs, full_town, planted_town
 
 # A ring of three with a tail, a pair of bridges apart from it, and a quarter alone.
 SMALL = Town(7, [(0, 1), (1, 2), (2, 0), (2, 3), (4, 5), (5, 4)])
 LARGE = full_town(7, 24, 60)
+PLANTED = planted_town(3, 3)
+# Three rows of bridges side by side, a full town, two pieces, one quarter, and the most bridges between two quarters.
+THREE_ROWS = Town(3, [(0, 1), (2, 1)] * 3)
+FULL = Town(5, full_pairs(5))
+PIECES = Town(6, [(0, 1), (1, 2), (2, 0), (3, 4), (4, 5), (5, 3)] * 2)
+ALONE = Town(1, [])
+SIXTY = Town(2, [(0, 1)] * 60)
 
 QUESTIONS = [
     (pieces_of, SMALL, [0, 1, 2, 3]), (pieces_of, SMALL, []), (pieces_of, LARGE, list(range(60))),
@@ -29,6 +40,16 @@ QUESTIONS = [
     (shows_most, SMALL, [[0, 1, 3, 4]], [[4, 5], [2, 1, 0]]),
     (most_dealt, SMALL, 1), (most_dealt, SMALL, 2), (most_dealt, SMALL, 60), (most_dealt, LARGE, 1),
     (most_dealt, LARGE, 2), (most_dealt, LARGE, 3), (most_dealt, LARGE, 60),
+    (joining_crews, ALONE, 3), (joining_crews, SMALL, 1), (joining_crews, THREE_ROWS, 3),
+    (joining_crews, THREE_ROWS, 4), (joining_crews, PLANTED, 3), (joining_crews, PLANTED, 60),
+    (joining_crews, LARGE, 2),
+    (most_joining, SMALL), (most_joining, THREE_ROWS), (most_joining, PLANTED), (most_joining, LARGE),
+    (most_joining, SIXTY),
+    (all_by, ALONE, 2), (all_by, SMALL, 1), (all_by, SMALL, 2), (all_by, THREE_ROWS, 60), (all_by, LARGE, 2),
+    (all_by, LARGE, 60),
+    (fewest_crews, ALONE), (fewest_crews, SMALL), (fewest_crews, PLANTED), (fewest_crews, LARGE), (fewest_crews, SIXTY),
+    (strength_of, THREE_ROWS), (strength_of, FULL), (strength_of, PIECES),
+    (crowding_of, THREE_ROWS), (crowding_of, FULL), (crowding_of, PIECES), (crowding_of, ALONE),
 ]
 REFUSED = [
     (pieces_of, SMALL, [1, 0]), (pieces_of, SMALL, [0, 6]), (joins_all, SMALL, [3, 3]), (joins_all, SMALL, [-1]),
@@ -37,6 +58,9 @@ REFUSED = [
     (bridges_between, SMALL, [[2, 3, 4, 5, 6], [0, 1]]), (bridges_between, SMALL, [[1, 0], [2, 3, 4, 5, 6]]),
     (bridges_between, SMALL, []), (bridges_within, SMALL, [2, 0]), (bridges_within, SMALL, []),
     (bridges_within, SMALL, [0, 7]), (most_dealt, SMALL, 0), (most_dealt, SMALL, 61),
+    (joining_crews, SMALL, 0), (joining_crews, LARGE, 61), (most_joining, ALONE), (all_by, SMALL, 0),
+    (all_by, LARGE, 61),
+    (strength_of, ALONE), (strength_of, LARGE), (strength_of, SMALL), (crowding_of, LARGE), (crowding_of, SMALL),
 ]
 
 
@@ -105,5 +129,5 @@ class WhatIsToldIsTheAskersOwn(TownCase):
     def test_no_two_lists_are_one(self):
         answers = [function(*handed) for _ in range(2) for function, *handed in QUESTIONS]
         lists = lists_in(answers)[1:] + lists_in([handed[1:] for _, *handed in QUESTIONS])
-        lists += [SMALL.bridges, LARGE.bridges]
+        lists += [town.bridges for town in (SMALL, LARGE, PLANTED, THREE_ROWS, FULL, PIECES, ALONE, SIXTY)]
         self.assertEqual(len({id(numbers) for numbers in lists}), len(lists))
