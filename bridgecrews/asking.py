@@ -1,6 +1,6 @@
 """What the program asks of the things that are handed in."""
 
-from bridgecrews.errors import BadCount, BadQuarters, BadSome, BadTown, TooLarge, TooSmall
+from bridgecrews.errors import BadCount, BadQuarters, BadSome, BadTown, BadWages, TooLarge, TooSmall
 
 MOST_QUARTERS = 24
 MOST_BRIDGES = 60
@@ -24,10 +24,15 @@ def rises_below(numbers, count):
     return rises(numbers) and all([0 <= number < count for number in numbers])
 
 
-def each_once(lists):
-    met = []
+def put_together(lists):
+    together = []
     for numbers in lists:
-        met.extend(numbers)
+        together.extend(numbers)
+    return together
+
+
+def each_once(lists):
+    met = put_together(lists)
     return len(set(met)) == len(met)
 
 
@@ -53,7 +58,7 @@ def check_town(quarters, bridges):
 
 def check_some(some, bridges):
     if not rises_below(some, len(bridges)):
-        raise BadSome("some bridges are a rising list of their numbers")
+        raise BadSome("some bridges or streets are a rising list of their numbers")
 
 
 def check_some_quarters(some, quarters):
@@ -69,6 +74,15 @@ def check_quarter(number, quarters):
 def check_crews(crews):
     if not 1 <= crews <= MOST_CREWS:
         raise BadCount(f"there are 1 to {MOST_CREWS} crews")
+
+
+def are_amounts(numbers, count):
+    return len(numbers) == count and all([0 <= number <= 10 ** 60 for number in numbers])
+
+
+def check_wages(wages, bridges):
+    if not are_amounts(wages, len(bridges)):
+        raise BadWages("wages are whole numbers from 0 to 10 ** 60, one for each bridge")
 
 
 def check_not_alone(quarters):

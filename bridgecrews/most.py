@@ -1,6 +1,7 @@
 """The most bridges that can be dealt out to a number of crews, with the huddles that show it."""
 
-from bridgecrews.asking import check_crews
+from bridgecrews.asking import check_crews, put_together
+from bridgecrews.dealings import lies_within
 from bridgecrews.pieces import way_between
 
 
@@ -46,15 +47,8 @@ def make_room(crew_of, end, pushed_by):
         bridge = pushed_by[bridge]
 
 
-def lies_within(ends, huddles):
-    return any([ends[0] in huddle and ends[1] in huddle for huddle in huddles])
-
-
 def ends_of(town, bridges):
-    quarters = []
-    for bridge in bridges:
-        quarters.extend(town.bridges[bridge])
-    return quarters
+    return put_together([town.bridges[bridge] for bridge in bridges])
 
 
 # Where a crew's bridges join each of two lists of quarters that share one, they join both together,
@@ -72,18 +66,30 @@ def with_huddle(huddles, quarters):
 
 # Where a bridge finds no room, each crew joins all quarters at the bridges that were come to by these bridges alone:
 # they are a huddle. No later move comes out of them, so it stays one, and no other bridge within it needs a search.
+# Tells the dealing and, for each row, the huddles that are there behind it. A bridge that is dealt out moves from crew
+# to crew but stays dealt, so at the end the huddles of each row still show that no dealing takes more of the bridges
+# of this row and those ahead of it.
 # The number of crews was asked already, or is the program's own: no crews, too, and one more than can be asked for.
-def deal_most(town, crews):
+def deal_by_rows(town, crews, rows):
     crew_of = {}
     huddles = []
-    for bridge, ends in enumerate(town.bridges):
-        if not lies_within(ends, huddles):
-            found = room_for(town, dealing_of(crew_of, crews), bridge)
-            if found[0] is None:
-                huddles = with_huddle(huddles, ends_of(town, list(found[1])))
-            else:
-                make_room(crew_of, found[0], found[1])
-    return (dealing_of(crew_of, crews), huddles)
+    shown = []
+    for row in rows:
+        for bridge in row:
+            if not lies_within(town.bridges[bridge], huddles):
+                found = room_for(town, dealing_of(crew_of, crews), bridge)
+                if found[0] is None:
+                    huddles = with_huddle(huddles, ends_of(town, list(found[1])))
+                else:
+                    make_room(crew_of, found[0], found[1])
+        # A huddle that stays from row to row is to be a list of its own in each.
+        shown.append([list(huddle) for huddle in huddles])
+    return (dealing_of(crew_of, crews), shown)
+
+
+def deal_most(town, crews):
+    told = deal_by_rows(town, crews, [list(range(len(town.bridges)))])
+    return (told[0], told[1][0])
 
 
 def most_dealt(town, crews):

@@ -47,18 +47,21 @@ def joins_all(town, some):
     return len(pieces_of(town, some)) == 1
 
 
-# A way over bridges that were asked already: the searches for rings and dealings ask for very many.
-def way_between(town, some, one, other):
-    came_by = reached_from(steps_over(town, some), one)
-    if other not in came_by:
+def way_to(quarter, came_by):
+    if quarter not in came_by:
         return None
     way = []
-    step = came_by[other]
+    step = came_by[quarter]
     while step is not None:
         way.append(step[0])
         step = came_by[step[1]]
     way.reverse()
     return way
+
+
+# A way over bridges that were asked already: the searches for rings and dealings ask for very many.
+def way_between(town, some, one, other):
+    return way_to(other, reached_from(steps_over(town, some), one))
 
 
 def way_over(town, some, one, other):

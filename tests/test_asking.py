@@ -3,10 +3,10 @@
 import unittest
 
 from bridgecrews.asking import (
-    are_groups, check_crews, check_not_above, check_not_alone, check_quarter, check_some, check_some_quarters,
-    check_town, each_once, is_quarter, joins_two, rises, rises_below,
+    are_amounts, are_groups, check_crews, check_not_above, check_not_alone, check_quarter, check_some,
+    check_some_quarters, check_town, check_wages, each_once, is_quarter, joins_two, put_together, rises, rises_below,
 )
-from bridgecrews.errors import BadCount, BadQuarters, BadSome, BadTown, TooLarge, TooSmall
+from bridgecrews.errors import BadCount, BadQuarters, BadSome, BadTown, BadWages, TooLarge, TooSmall
 
 
 class IsQuarter(unittest.TestCase):
@@ -57,6 +57,23 @@ class Lists(unittest.TestCase):
         for lists in ([[1, 1]], [[1], [1]], [[0, 1], [2], [3, 0]]):
             self.assertIs(each_once(lists), False)
 
+    def test_lists_are_put_together_in_their_order(self):
+        lists = [[2, 0], [], [1]]
+        together = put_together(lists)
+        self.assertEqual(together, [2, 0, 1])
+        together.append(3)
+        self.assertEqual(lists, [[2, 0], [], [1]])
+        self.assertEqual(put_together([]), [])
+
+    def test_amounts(self):
+        for numbers in ([], [0], [10 ** 60], [3, 0, 10 ** 60, 3]):
+            self.assertIs(are_amounts(numbers, len(numbers)), True)
+            self.assertIs(are_amounts(numbers, len(numbers) + 1), False)
+            self.assertIs(are_amounts(numbers + [1], len(numbers)), False)
+            for wrong in (-1, 10 ** 60 + 1, -10 ** 99, 10 ** 99):
+                self.assertIs(are_amounts([wrong] + numbers, len(numbers) + 1), False)
+                self.assertIs(are_amounts(numbers + [wrong], len(numbers) + 1), False)
+
     def test_groups(self):
         for groups, fewest in (([], 1), ([[0]], 1), ([[0, 3], [1], [2]], 1), ([], 2), ([[0, 3], [1, 2]], 2)):
             self.assertIs(are_groups(groups, 4, fewest), True)
@@ -75,6 +92,8 @@ class Checks(unittest.TestCase):
             self.assertIsNone(check_quarter(number, 4))
         for crews in (1, 60):
             self.assertIsNone(check_crews(crews))
+        for wages, bridges in (([], []), ([0, 10 ** 60], [(0, 1), (0, 1)])):
+            self.assertIsNone(check_wages(wages, bridges))
         for quarters in (2, 24):
             self.assertIsNone(check_not_alone(quarters))
         for quarters, bridges in ((1, []), (3, [(0, 1), (1, 2)]), (2, [(0, 1)])):
@@ -86,6 +105,8 @@ class Checks(unittest.TestCase):
             (BadSome, check_some, ([0], [])), (BadQuarters, check_some_quarters, ([], 4)),
             (BadQuarters, check_some_quarters, ([4], 4)), (BadQuarters, check_some_quarters, ([1, 0], 4)),
             (BadQuarters, check_quarter, (4, 4)), (BadQuarters, check_quarter, (-1, 4)),
+            (BadWages, check_wages, ([], [(0, 1)])), (BadWages, check_wages, ([1], [])),
+            (BadWages, check_wages, ([-1], [(0, 1)])), (BadWages, check_wages, ([10 ** 60 + 1], [(0, 1)])),
             (BadCount, check_crews, (0,)), (BadCount, check_crews, (61,)), (TooSmall, check_not_alone, (1,)),
             (TooLarge, check_not_above, (4, [], 3, 2)), (TooLarge, check_not_above, (2, [(0, 1)] * 3, 3, 2)),
         ):

@@ -16,6 +16,12 @@ FUNCTIONS = {
     "covering": {"fewest_crews": ["town"], "all_by": ["town", "crews"]},
     "strength": {"strength_of": ["town"]},
     "crowding": {"crowding_of": ["town"]},
+    "wages": {
+        "level_shows": ["town", "some", "dealing", "huddles"], "dearest_dealing": ["town", "crews", "wages"],
+        "cheapest_joining": ["town", "crews", "wages"],
+    },
+    "streets": {"reached_over": ["streets", "some", "one"]},
+    "apart": {"ways_apart": ["streets", "one", "other"]},
 }
 
 
@@ -30,6 +36,10 @@ class TheInterface(unittest.TestCase):
     def test_a_town_is_made_of_quarters_and_bridges(self):
         town = importlib.import_module("bridgecrews.towns").Town
         self.assertEqual(list(inspect.signature(town).parameters), ["quarters", "bridges"])
+
+    def test_streets_are_made_of_quarters_and_streets(self):
+        streets = importlib.import_module("bridgecrews.streets").Streets
+        self.assertEqual(list(inspect.signature(streets).parameters), ["quarters", "streets"])
 
 
 if __name__ == "__main__":

@@ -3,7 +3,9 @@
 from bridgecrews.errors import BadQuarters, BadSome
 from bridgecrews.partings import bridges_within
 from bridgecrews.pieces import joins_all, pieces_of, ring_over, way_over
+from bridgecrews.streets import Streets, reached_over
 from bridgecrews.towns import Town
+from bridgecrews.wages import level_shows
 from town_help import FAR_NUMBERS, SIXTY_FIGURES, TownCase, full_town
 
 
@@ -15,7 +17,19 @@ def way_to_itself(town, some):
     return way_over(town, some, 0, 0)
 
 
-TAKE_SOME = (pieces_of, joins_all, ring_over, way_there, way_to_itself)
+def reached(town, some):
+    return reached_over(Streets(town.quarters, town.bridges), some, 0)
+
+
+def shown(town, some):
+    return level_shows(town, some, [[0], []] if town.bridges else [[]], [])
+
+
+def shown_by_none(town, some):
+    return level_shows(town, some, [[-1]], [[]])
+
+
+TAKE_SOME = (pieces_of, joins_all, ring_over, way_there, way_to_itself, reached, shown, shown_by_none)
 TOWNS = (Town(4, [(0, 1), (1, 2), (2, 3), (3, 0), (0, 2), (1, 3)]), full_town(12, 24, 60))
 
 
@@ -119,6 +133,14 @@ class SingleQuartersRefused(TownCase):
                         with self.subTest(one=one, other=other, some=some):
                             self.assert_refused(BadQuarters, way_over, town, some, one, other)
 
+    def test_as_the_one_that_streets_are_gone_from(self):
+        for town in TOWNS + (Town(1, []), Town(5, [])):
+            streets = Streets(town.quarters, town.bridges)
+            for wrong in (-1, -town.quarters, town.quarters, town.quarters + 1, 59) + FAR_NUMBERS:
+                for some in ([], list(range(len(streets.streets)))):
+                    with self.subTest(wrong=wrong, some=some):
+                        self.assert_refused(BadQuarters, reached_over, streets, some, wrong)
+
     def test_the_last_quarter_is_taken(self):
         for town in TOWNS:
             last = town.quarters - 1
@@ -135,3 +157,11 @@ class BothWrong(TownCase):
                 for one, other in ((-1, 0), (0, -1), (town.quarters, 0), (0, town.quarters), (-1, SIXTY_FIGURES)):
                     with self.subTest(some=some, one=one, other=other):
                         self.assert_refused(BadSome, way_over, town, some, one, other)
+
+    def test_bad_some_goes_first_for_streets(self):
+        for town in TOWNS + (Town(5, []),):
+            streets = Streets(town.quarters, town.bridges)
+            for some in ([-1], [len(town.bridges)], [1, 0], [0, 0], [SIXTY_FIGURES]):
+                for wrong in (-1, town.quarters, SIXTY_FIGURES):
+                    with self.subTest(some=some, wrong=wrong):
+                        self.assert_refused(BadSome, reached_over, streets, some, wrong)

@@ -1,12 +1,18 @@
-"""Point 11, and points 1 to 3 as far as they speak of towns."""
+"""Points 11 and 71, and points 1 to 3 as far as they speak of towns and streets: both are made and refused alike."""
 
 import unittest
 
 from bridgecrews.errors import BadTown, CrewError
+from bridgecrews.streets import Streets
 from bridgecrews.towns import Town
 
 SIXTY_FIGURES = 10 ** 59 + 7
 SEVENTY_FIGURES = 10 ** 70 - 1
+MADE = (Town, Streets)
+
+
+def pairs_of(made):
+    return made.streets if isinstance(made, Streets) else made.bridges
 
 
 def good_bridges(quarters, count):
@@ -22,24 +28,26 @@ def with_bridge_at_each_place(bridge, quarters):
 class TownCase(unittest.TestCase):
     def assert_refused(self, quarters, bridges):
         before = list(bridges)
-        with self.assertRaises(BadTown) as caught:
-            Town(quarters, bridges)
-        self.assertIs(type(caught.exception), BadTown)
-        self.assertEqual(caught.exception.called(), "BadTown")
-        self.assertIsInstance(caught.exception, CrewError)
-        self.assertEqual(bridges, before)
+        for make in MADE:
+            with self.assertRaises(BadTown) as caught:
+                make(quarters, bridges)
+            self.assertIs(type(caught.exception), BadTown)
+            self.assertEqual(caught.exception.called(), "BadTown")
+            self.assertIsInstance(caught.exception, CrewError)
+            self.assertEqual(bridges, before)
 
     def assert_taken(self, quarters, bridges):
         before = list(bridges)
-        town = Town(quarters, bridges)
-        self.assertIs(type(town.quarters), int)
-        self.assertEqual(town.quarters, quarters)
-        self.assertIs(type(town.bridges), list)
-        self.assertEqual(town.bridges, before)
-        for bridge in town.bridges:
-            self.assertIs(type(bridge), tuple)
-        self.assertEqual(bridges, before)
-        self.assertIsNot(town.bridges, bridges)
+        for make in MADE:
+            made = make(quarters, bridges)
+            self.assertIs(type(made.quarters), int)
+            self.assertEqual(made.quarters, quarters)
+            self.assertIs(type(pairs_of(made)), list)
+            self.assertEqual(pairs_of(made), before)
+            for pair in pairs_of(made):
+                self.assertIs(type(pair), tuple)
+            self.assertEqual(bridges, before)
+            self.assertIsNot(pairs_of(made), bridges)
 
 
 class QuartersRefused(TownCase):
@@ -144,43 +152,56 @@ class Taken(TownCase):
                         self.assert_taken(24, [(one, other)])
 
     def test_order_of_bridges_and_of_their_ends_stays(self):
-        town = Town(4, [(3, 1), (0, 2), (2, 0), (1, 3), (0, 1)])
-        self.assertEqual(town.quarters, 4)
-        self.assertEqual(town.bridges, [(3, 1), (0, 2), (2, 0), (1, 3), (0, 1)])
+        for make in MADE:
+            made = make(4, [(3, 1), (0, 2), (2, 0), (1, 3), (0, 1)])
+            self.assertEqual(made.quarters, 4)
+            self.assertEqual(pairs_of(made), [(3, 1), (0, 2), (2, 0), (1, 3), (0, 1)])
 
 
 class NothingIsShared(TownCase):
-    def test_a_later_change_of_the_list_does_not_reach_the_town(self):
-        bridges = [(0, 1), (1, 2)]
-        town = Town(3, bridges)
-        bridges.append((0, 2))
-        self.assertEqual(town.bridges, [(0, 1), (1, 2)])
-        bridges[0] = (2, 1)
-        self.assertEqual(town.bridges, [(0, 1), (1, 2)])
-        bridges.clear()
-        self.assertEqual(town.bridges, [(0, 1), (1, 2)])
+    def test_a_later_change_of_the_list_does_not_reach_what_was_made(self):
+        for make in MADE:
+            bridges = [(0, 1), (1, 2)]
+            made = make(3, bridges)
+            bridges.append((0, 2))
+            self.assertEqual(pairs_of(made), [(0, 1), (1, 2)])
+            bridges[0] = (2, 1)
+            self.assertEqual(pairs_of(made), [(0, 1), (1, 2)])
+            bridges.clear()
+            self.assertEqual(pairs_of(made), [(0, 1), (1, 2)])
 
     def test_an_empty_list_is_a_copy_too(self):
-        bridges = []
-        town = Town(3, bridges)
-        bridges.append((0, 1))
-        self.assertEqual(town.bridges, [])
+        for make in MADE:
+            bridges = []
+            made = make(3, bridges)
+            bridges.append((0, 1))
+            self.assertEqual(pairs_of(made), [])
 
     def test_a_change_of_the_field_does_not_reach_the_list(self):
-        bridges = [(0, 1), (1, 2)]
-        town = Town(3, bridges)
-        town.bridges.append((0, 2))
-        self.assertEqual(bridges, [(0, 1), (1, 2)])
+        for make in MADE:
+            bridges = [(0, 1), (1, 2)]
+            made = make(3, bridges)
+            pairs_of(made).append((0, 2))
+            self.assertEqual(bridges, [(0, 1), (1, 2)])
 
-    def test_two_towns_of_one_list_have_each_a_list_of_their_own(self):
-        for bridges in ([], [(0, 1), (1, 2)]):
-            with self.subTest(bridges):
-                first = Town(3, bridges)
-                second = Town(3, bridges)
-                self.assertIsNot(first.bridges, second.bridges)
-                first.bridges.append((0, 2))
-                self.assertEqual(second.bridges, bridges)
-                self.assertEqual(Town(3, bridges).bridges, bridges)
+    def test_two_that_are_made_of_one_list_have_each_a_list_of_their_own(self):
+        for make in MADE:
+            for bridges in ([], [(0, 1), (1, 2)]):
+                with self.subTest(make=make.__name__, bridges=bridges):
+                    first = make(3, bridges)
+                    second = make(3, bridges)
+                    self.assertIsNot(pairs_of(first), pairs_of(second))
+                    pairs_of(first).append((0, 2))
+                    self.assertEqual(pairs_of(second), bridges)
+                    self.assertEqual(pairs_of(make(3, bridges)), bridges)
+
+    def test_streets_of_a_towns_bridges_have_a_list_of_their_own(self):
+        town = Town(3, [(0, 1), (1, 2)])
+        streets = Streets(3, town.bridges)
+        streets.streets.append((2, 0))
+        self.assertEqual(town.bridges, [(0, 1), (1, 2)])
+        town.bridges.clear()
+        self.assertEqual(streets.streets, [(0, 1), (1, 2), (2, 0)])
 
     def test_a_list_that_was_refused_stays_as_it_was(self):
         for bridges in ([(0, 1), (1, 1), (1, 2)], [(2, 1)] * 61, [(0, 1), (0, 3)]):
@@ -196,11 +217,13 @@ class NothingIsShared(TownCase):
         self.assert_refused(3, bridges + [(1, 1)])
         self.assert_taken(3, bridges)
 
-    def test_towns_made_between_do_not_change_earlier_ones(self):
-        first = Town(3, [(0, 1)])
-        Town(24, [(22, 23)] * 60)
+    def test_what_is_made_between_does_not_change_earlier_ones(self):
+        first = [make(3, [(0, 1)]) for make in MADE]
+        for make in MADE:
+            make(24, [(22, 23)] * 60)
         self.assert_refused(3, [(0, 1)] * 61)
-        self.assertEqual((first.quarters, first.bridges), (3, [(0, 1)]))
+        for made in first:
+            self.assertEqual((made.quarters, pairs_of(made)), (3, [(0, 1)]))
 
 
 if __name__ == "__main__":

@@ -1,6 +1,6 @@
 """What several tests need: towns to ask about, and plain ways to see what is right, slow but easy to follow.
 
-Nothing here uses the program's own functions but Town.
+Nothing here uses the program's own functions but Town and Streets.
 """
 
 import copy
@@ -11,6 +11,7 @@ import time
 import unittest
 
 from bridgecrews.errors import CrewError
+from bridgecrews.streets import Streets
 from bridgecrews.towns import Town
 
 SIXTY_FIGURES = 10 ** 59 + 7
@@ -22,11 +23,11 @@ SECONDS = 2
 class TownCase(unittest.TestCase):
     def ask(self, function, town, *handed):
         """The answer, or the refusal as it is raised; either way what was handed in must be as it was."""
-        before = (town.quarters, list(town.bridges), copy.deepcopy(handed))
+        before = copy.deepcopy((vars(town), handed))
         try:
             return function(town, *handed)
         finally:
-            self.assertEqual((town.quarters, town.bridges, handed), before)
+            self.assertEqual((vars(town), handed), before)
 
     def assert_refused(self, refusal, function, town, *handed):
         with self.assertRaises(CrewError) as caught:
@@ -122,6 +123,15 @@ def some_town(seed, most_quarters=24, most_bridges=60):
 def full_town(seed, quarters, bridges):
     chance = random.Random(f"{seed} {quarters} {bridges}")
     return Town(quarters, [tuple(chance.sample(range(quarters), 2)) for _ in range(bridges)])
+
+
+def some_streets(seed, most_quarters=24, most_streets=60):
+    town = some_town(f"streets {seed}", most_quarters, most_streets)
+    return Streets(town.quarters, town.bridges)
+
+
+def full_streets(seed, quarters, streets):
+    return Streets(quarters, full_town(f"streets {seed}", quarters, streets).bridges)
 
 
 def chance_joining(chance, quarters):
@@ -279,17 +289,18 @@ def dealt_count(dealing):
     return sum(len(own) for own in dealing)
 
 
-def most_by_huddles(town, crews, huddles):
-    free = [bridge for bridge in range(len(town.bridges))
+def most_by_huddles(town, crews, huddles, some=None):
+    """The most that a dealing takes by these huddles of some bridges, or of all."""
+    free = [bridge for bridge in (range(len(town.bridges)) if some is None else some)
             if not any(set(town.bridges[bridge]) <= set(huddle) for huddle in huddles)]
     return len(free) + crews * sum(len(huddle) - 1 for huddle in huddles)
 
 
-def most_by_trying(town, crews):
-    """The most bridges of any dealing: each bridge is given to each crew and to none."""
+def dearest_by_trying(town, crews, wages):
+    """The greatest sum of any dealing: each bridge is given to each crew and to none."""
     def tried(bridge, dealing):
         if bridge == len(town.bridges):
-            return dealt_count(dealing)
+            return sum(wages[taken] for own in dealing for taken in own)
         most = tried(bridge + 1, dealing)
         for crew in range(crews):
             own = dealing[crew] + [bridge]
@@ -297,6 +308,11 @@ def most_by_trying(town, crews):
                 most = max(most, tried(bridge + 1, dealing[:crew] + [own] + dealing[crew + 1:]))
         return most
     return tried(0, [[] for _ in range(crews)])
+
+
+def most_by_trying(town, crews):
+    """The most bridges of any dealing."""
+    return dearest_by_trying(town, crews, [1] * len(town.bridges))
 
 
 def joinings_by_trying(town):
@@ -314,6 +330,21 @@ def most_joining_by_trying(town):
             most = max(most, 1 + tried(apart))
         return most
     return tried(joinings_by_trying(town))
+
+
+def cheapest_by_trying(town, crews, wages):
+    """The least sum of so many joinings, no two with a bridge in common, or None where there are not so many."""
+    def tried(joinings, many):
+        if many == 0:
+            return 0
+        sums = []
+        for place, one in enumerate(joinings):
+            apart = [other for other in joinings[place + 1:] if not set(one) & set(other)]
+            others = tried(apart, many - 1)
+            if others is not None:
+                sums.append(others + sum(wages[bridge] for bridge in one))
+        return min(sums, default=None)
+    return 0 if town.quarters == 1 else tried(joinings_by_trying(town), crews)
 
 
 def fewest_by_trying(town):
